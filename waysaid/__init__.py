@@ -1,0 +1,1 @@
+"""Waysaid: what is said of all ways, and of some way, through a world of states."""
