@@ -1,7 +1,7 @@
 import copy
 import unittest
 
-from waysaid.sentences import parts_of
+from waysaid.sentences import is_about_ways, own_places, parts_of
 
 A = ("mark", 1)
 B = ("mark", 2)
@@ -146,6 +146,43 @@ class Parts(unittest.TestCase):
         told = parts_of(sentence)
         told.clear()
         self.assert_parts(sentence, [A, B, sentence])
+
+
+class Places(unittest.TestCase):
+    def assert_places(self, sentence, wanted):
+        self.assertEqual(own_places(parts_of(sentence)), wanted)
+
+    def test_mark(self):
+        self.assert_places(A, [[]])
+
+    def test_one_part(self):
+        for sentence in one_part_forms(A):
+            self.assert_places(sentence, [[], [0]])
+
+    def test_two_parts(self):
+        for sentence in two_part_forms(A, B):
+            self.assert_places(sentence, [[], [], [0, 1]])
+        for sentence in two_part_forms(("not", A), ("and", A, B)):
+            self.assert_places(sentence, [[], [0], [], [], [2, 3], [1, 4]])
+
+    def test_the_parts_at_the_places_are_the_own_parts(self):
+        sentence = ("until", "all", broad([("mark", number) for number in range(20)]), ("again", "some", broad([A] * 9)))
+        parts = parts_of(sentence)
+        for part, places in zip(parts, own_places(parts)):
+            self.assertEqual([parts[place] for place in places], [piece for piece in part if isinstance(piece, tuple)])
+
+    def test_no_place_is_told_twice(self):
+        sentence = ("and", ("or", A, A), ("or", A, A))
+        told = [place for places in own_places(parts_of(sentence)) for place in places]
+        self.assertEqual(sorted(told), list(range(6)))
+
+
+class AboutWays(unittest.TestCase):
+    def test_each_form(self):
+        for sentence in [A, ("not", A), ("and", A, B), ("or", A, B), ("not", ("next", "some", A))]:
+            self.assertIs(is_about_ways(sentence), False)
+        for sentence in one_part_forms(A)[1:] + two_part_forms(A, B)[2:]:
+            self.assertIs(is_about_ways(sentence), True)
 
 
 if __name__ == "__main__":

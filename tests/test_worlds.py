@@ -2,7 +2,7 @@ import copy
 import unittest
 
 from waysaid.errors import NoDoor, NoState
-from waysaid.worlds import check_world, doors_of, is_state
+from waysaid.worlds import check_world, doors_of, is_state, marks_of
 
 # Python refuses to write this one as a text: a refusal must not try to.
 FAR = 10 ** 5000
@@ -81,6 +81,11 @@ class Worlds(unittest.TestCase):
         world = [([1, 2], [1]), ([3], [1, 0])]
         self.assertEqual(doors_of(world, 0), [1])
         self.assertEqual(doors_of(world, 1), [1, 0])
+
+    def test_marks_of(self):
+        world = [([1, 2], [1]), ([3], [1, 0])]
+        self.assertEqual(marks_of(world, 0), [1, 2])
+        self.assertEqual(marks_of(world, 1), [3])
 
     def test_is_state(self):
         world = ring(3)

@@ -3,6 +3,11 @@
 from waysaid.errors import NoDoor, NoState
 
 
+def marks_of(world, place):
+    """The list of the marks of the state at this place."""
+    return world[place][0]
+
+
 def doors_of(world, place):
     """The list of the states that the doors of the state at this place lead to."""
     return world[place][1]
